@@ -76,7 +76,34 @@ func TestSum(t *testing.T) {
 	}
 }
 
-// P2.1: each single byte, so each row of the table.
+// The table that is laid at the start-up holds steps of eight bits: each row is what the document's words make of a register's lowest byte by eight bits 0. No answer hangs on it, so that only this tells.
+func TestTableOfSteps(t *testing.T) {
+	if len(steps) != 256 {
+		t.Fatalf("%d rows", len(steps))
+	}
+	for i, row := range steps {
+		if want := ^bitByBit(uint32(i), "\x00"); row != want {
+			t.Errorf("row %d: %08X; want %08X", i, row, want)
+		}
+	}
+}
+
+// P2.1: no sum hangs on what the table holds.
+func TestSumsWithoutTable(t *testing.T) {
+	kept := steps
+	defer func() { steps = kept }()
+	for i := range steps {
+		steps[i] = ^steps[i]
+	}
+	for _, x := range knownSums {
+		if s := Sum(x.b); s != x.sum {
+			t.Errorf("Sum(%x): %08X; want %08X", x.b, s, x.sum)
+		}
+		checkOpens(t, Seal(x.b), x.b)
+	}
+}
+
+// P2.1: each single byte, so each step of eight bits.
 func TestSumOfEachByte(t *testing.T) {
 	for i := range 256 {
 		b := string([]byte{byte(i)})
